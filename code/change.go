@@ -4,11 +4,12 @@ import (
 	"slices"
 
 	"tinker/api"
+	"tinker/kit"
 )
 
 // Put returns the program with l in the place of the line at.
 func Put(p []api.Line, at int, l api.Line) ([]api.Line, api.Errno) {
-	if e := firstError(Validate(p), ValidateLine(l)); e != api.OK {
+	if e := kit.FirstError(Validate(p), ValidateLine(l)); e != api.OK {
 		return nil, e
 	}
 	if !hasLine(p, at) {
@@ -21,7 +22,7 @@ func Put(p []api.Line, at int, l api.Line) ([]api.Line, api.Errno) {
 
 // Independent reports whether the order of two lines that follow each other does not matter.
 func Independent(l, m api.Line) (bool, api.Errno) {
-	if e := firstError(ValidateLine(l), ValidateLine(m)); e != api.OK {
+	if e := kit.FirstError(ValidateLine(l), ValidateLine(m)); e != api.OK {
 		return false, e
 	}
 	return areIndependent(l, m), api.OK
@@ -62,7 +63,7 @@ func validatePair(p []api.Line, at int) api.Errno {
 	if e := Validate(p); e != api.OK {
 		return e
 	}
-	if !isBetween(at, 0, len(p)-2) {
+	if !kit.IsBetween(at, 0, len(p)-2) {
 		return api.ErrNone
 	}
 	return api.OK
@@ -81,7 +82,7 @@ func canExchange(p []api.Line, at int) bool {
 // Rename returns the program in which each register r has the number to[r].
 // What a line's number means in the state to is just that: the new name of a register, or the number as it is.
 func Rename(p []api.Line, to []int) ([]api.Line, api.Errno) {
-	if e := firstError(Validate(p), validateNames(to)); e != api.OK {
+	if e := kit.FirstError(Validate(p), validateNames(to)); e != api.OK {
 		return nil, e
 	}
 	names := stateOf(to)
@@ -96,7 +97,7 @@ func Rename(p []api.Line, to []int) ([]api.Line, api.Errno) {
 
 // Move returns the state whose register to[r] is the register r of in.
 func Move(in []int, to []int) ([]int, api.Errno) {
-	if e := firstError(ValidateState(in), validateNames(to)); e != api.OK {
+	if e := kit.FirstError(ValidateState(in), validateNames(to)); e != api.OK {
 		return nil, e
 	}
 	moved := make([]int, api.Registers)
@@ -123,7 +124,7 @@ func validateNames(to []int) api.Errno {
 
 // Join returns the lines of p and then those of q.
 func Join(p, q []api.Line) ([]api.Line, api.Errno) {
-	if e := firstError(Validate(p), Validate(q)); e != api.OK {
+	if e := kit.FirstError(Validate(p), Validate(q)); e != api.OK {
 		return nil, e
 	}
 	if len(p)+len(q) > api.MaxLines {

@@ -7,14 +7,15 @@ import (
 
 	"tinker/api"
 	"tinker/code"
+	"tinker/sample"
 )
 
 func TestPut(t *testing.T) {
 	l := api.Line{Op: api.Set, A: 4}
-	if q, e := code.Put(six(), 0, l); e != api.OK || !slices.Equal(q, []api.Line{l, {Op: api.Add}}) {
+	if q, e := code.Put(sample.Six(), 0, l); e != api.OK || !slices.Equal(q, []api.Line{l, {Op: api.Add}}) {
 		t.Error("P1.4:", q, e)
 	}
-	if q, e := code.Put(six(), 1, l); e != api.OK || !slices.Equal(q, []api.Line{{Op: api.Set, A: 3}, l}) {
+	if q, e := code.Put(sample.Six(), 1, l); e != api.OK || !slices.Equal(q, []api.Line{{Op: api.Set, A: 3}, l}) {
 		t.Error("P1.4:", q, e)
 	}
 	full := make([]api.Line, 8)
@@ -22,24 +23,24 @@ func TestPut(t *testing.T) {
 		t.Error("P1.4:", q, e)
 	}
 	for _, at := range []int{math.MinInt, -1, 2, 7, math.MaxInt} {
-		if q, e := code.Put(six(), at, l); e != api.ErrNone || len(q) != 0 {
+		if q, e := code.Put(sample.Six(), at, l); e != api.ErrNone || len(q) != 0 {
 			t.Error("P1.4:", at, q, e)
 		}
-		if _, e := code.Put(six(), at, badLine()); e != api.ErrArg {
+		if _, e := code.Put(sample.Six(), at, sample.BadLine()); e != api.ErrArg {
 			t.Error("R2: a line that is not valid at no place:", at, e)
 		}
 	}
 	if _, e := code.Put(nil, 0, l); e != api.ErrNone {
 		t.Error("P1.4: a place of the empty program:", e)
 	}
-	if _, e := code.Put(tooLong(), 0, badLine()); e != api.ErrLarge {
+	if _, e := code.Put(sample.TooLong(), 0, sample.BadLine()); e != api.ErrLarge {
 		t.Error("R2:", e)
 	}
 }
 
 // TestIndependent goes through all pairs of lines.
 func TestIndependent(t *testing.T) {
-	lines := allLines()
+	lines := sample.Lines()
 	for _, l := range lines {
 		for _, m := range lines {
 			if is, e := code.Independent(l, m); e != api.OK || is != modelIndependent(l, m) {
@@ -123,10 +124,10 @@ func TestNoPair(t *testing.T) {
 
 // TestExchangeChangesNoRun is the consequence of P1.4, and holds CanExchange against the model.
 func TestExchangeChangesNoRun(t *testing.T) {
-	m := newMaker()
+	m := sample.New()
 	exchanged := 0
 	for range 20000 {
-		p, in := m.program(), m.state()
+		p, in := m.Program(), m.State()
 		end, _ := code.Run(p, in)
 		for at := range max(len(p)-1, 0) {
 			want := modelIndependent(p[at], p[at+1])
@@ -205,13 +206,13 @@ func TestErrorsOfNames(t *testing.T) {
 		nil, {}, {0, 1, 2}, {0, 1, 2, 3, 3}, {0, 1, 2, 3, 4}, {0, 1, 2, 2}, {3, 3, 3, 3}, {1, 2, 3, 4}, {-1, 0, 1, 2},
 		{0, 1, 2, math.MaxInt}, {math.MinInt, 1, 2, 3},
 	} {
-		if q, e := code.Rename(six(), to); e != api.ErrArg || len(q) != 0 {
+		if q, e := code.Rename(sample.Six(), to); e != api.ErrArg || len(q) != 0 {
 			t.Error("P1.5:", to, q, e)
 		}
-		if _, e := code.Rename(tooLong(), to); e != api.ErrLarge {
+		if _, e := code.Rename(sample.TooLong(), to); e != api.ErrLarge {
 			t.Error("R2:", to, e)
 		}
-		if in, e := code.Move(zeros(), to); e != api.ErrArg || len(in) != 0 {
+		if in, e := code.Move(sample.Zeros(), to); e != api.ErrArg || len(in) != 0 {
 			t.Error("P1.5:", to, in, e)
 		}
 	}
@@ -224,13 +225,13 @@ func TestErrorsOfNames(t *testing.T) {
 
 // TestRenameIsMove is the first consequence of P1.5.
 func TestRenameIsMove(t *testing.T) {
-	m := newMaker()
+	m := sample.New()
 	if len(orders()) != 24 {
 		t.Fatal("the test knows", len(orders()), "orders")
 	}
 	for _, to := range orders() {
 		for range 200 {
-			p, in := m.program(), m.state()
+			p, in := m.Program(), m.State()
 			q, e := code.Rename(p, to)
 			moved, f := code.Move(in, to)
 			if e != api.OK || f != api.OK {
@@ -247,7 +248,7 @@ func TestRenameIsMove(t *testing.T) {
 }
 
 func TestJoin(t *testing.T) {
-	p, q := six(), []api.Line{{Op: api.Copy, To: 1, A: 0}}
+	p, q := sample.Six(), []api.Line{{Op: api.Copy, To: 1, A: 0}}
 	if l, e := code.Join(p, q); e != api.OK || !slices.Equal(l, []api.Line{p[0], p[1], q[0]}) {
 		t.Error("P1.5:", l, e)
 	}
@@ -269,10 +270,10 @@ func TestJoin(t *testing.T) {
 
 // TestJoinRuns is the second consequence of P1.5.
 func TestJoinRuns(t *testing.T) {
-	m := newMaker()
+	m := sample.New()
 	joined := 0
 	for range 20000 {
-		p, q, in := m.program(), m.program(), m.state()
+		p, q, in := m.Program(), m.Program(), m.State()
 		fits := len(p)+len(q) <= 8
 		for place, l := range p {
 			fits = fits && !(l.Op == api.Skip && place+l.To >= len(p))

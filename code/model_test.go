@@ -2,7 +2,6 @@ package code_test
 
 import (
 	"math"
-	"math/rand/v2"
 	"slices"
 	"testing"
 
@@ -128,88 +127,9 @@ func modelIndependent(l, m api.Line) bool {
 	return true
 }
 
-// allLines returns each valid line.
-func allLines() []api.Line {
-	list := []api.Line{{}}
-	for to := range 4 {
-		for a := -9; a <= 9; a++ {
-			list = append(list, api.Line{Op: api.Set, To: to, A: a})
-		}
-		for a := range 4 {
-			list = append(list, api.Line{Op: api.Copy, To: to, A: a})
-			for b := range 4 {
-				for _, op := range []int{api.Add, api.Subtract, api.Least, api.Greatest} {
-					list = append(list, api.Line{Op: op, To: to, A: a, B: b})
-				}
-				list = append(list, api.Line{Op: api.Skip, To: to + 1, A: a, B: b}, api.Line{Op: api.Skip, To: to + 5, A: a, B: b})
-			}
-		}
-	}
-	return list
-}
-
-// maker makes programs and states; the same ones in each run of the tests.
-type maker struct {
-	*rand.Rand
-	lines map[int][]api.Line // by Op
-}
-
-func newMaker() maker {
-	m := maker{rand.New(rand.NewPCG(1, 2)), map[int][]api.Line{}}
-	for _, l := range allLines() {
-		m.lines[l.Op] = append(m.lines[l.Op], l)
-	}
-	return m
-}
-
-func (m maker) line() api.Line {
-	l := m.lines[m.IntN(8)]
-	return l[m.IntN(len(l))]
-}
-
-func (m maker) program() []api.Line {
-	p := make([]api.Line, m.IntN(9))
-	for i := range p {
-		p[i] = m.line()
-		if p[i].Op == api.Skip && m.IntN(2) == 0 { // short ones lead into the program more often
-			p[i].To = 1 + m.IntN(3)
-		}
-	}
-	return p
-}
-
-func (m maker) number() int {
-	switch m.IntN(4) {
-	case 0:
-		return 999 - m.IntN(20)
-	case 1:
-		return m.IntN(20) - 999
-	}
-	return m.IntN(9) - 4
-}
-
-func (m maker) state() []int {
-	return []int{m.number(), m.number(), m.number(), m.number()}
-}
-
-// zeros is the state of zeros.
-func zeros() []int {
-	return []int{0, 0, 0, 0}
-}
-
 // extremes are numbers that no field may have.
 func extremes() []int {
 	return []int{math.MinInt, math.MinInt + 1, -1000, -10, 10, 1000, math.MaxInt - 1, math.MaxInt}
-}
-
-// badLine is no line.
-func badLine() api.Line {
-	return api.Line{Op: 8}
-}
-
-// tooLong has more lines than a program may have.
-func tooLong() []api.Line {
-	return make([]api.Line, 9)
 }
 
 // expect reports a code other than the wanted one.

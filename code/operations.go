@@ -1,6 +1,9 @@
 package code
 
-import "tinker/api"
+import (
+	"tinker/api"
+	"tinker/kit"
+)
 
 // kind tells what a number of a line stands for.
 type kind int
@@ -16,11 +19,11 @@ const (
 func (k kind) allows(n int) bool {
 	switch k {
 	case isRegister:
-		return isBetween(n, 0, api.Registers-1)
+		return kit.IsRegister(n)
 	case isNumber:
-		return isBetween(n, -api.MaxConst, api.MaxConst)
+		return kit.IsBetween(n, -api.MaxConst, api.MaxConst)
 	case isCount:
-		return isBetween(n, 1, api.MaxLines)
+		return kit.IsBetween(n, 1, api.MaxLines)
 	}
 	return n == 0
 }
@@ -67,7 +70,7 @@ func never(_, _ int) bool     { return false }
 
 // isLine reports whether l is a line.
 func isLine(l api.Line) bool {
-	if !isBetween(l.Op, 0, operationCount-1) {
+	if !kit.IsBetween(l.Op, 0, operationCount-1) {
 		return false
 	}
 	op := operations()[l.Op]

@@ -4,6 +4,7 @@ import (
 	"slices"
 
 	"tinker/api"
+	"tinker/kit"
 )
 
 // state has the number of each register. It is an array, so that keeping one keeps a copy.
@@ -57,7 +58,7 @@ func cut(n int) int {
 
 // validateRun returns the errors of a program and of a state to run it from.
 func validateRun(p []api.Line, in []int) api.Errno {
-	return firstError(Validate(p), ValidateState(in))
+	return kit.FirstError(Validate(p), ValidateState(in))
 }
 
 // Run returns the state at the end.
@@ -75,7 +76,7 @@ func Done(p []api.Line, in []int) ([]int, api.Errno) {
 		return nil, e
 	}
 	c := follow(p, stateOf(in), forced{})
-	return places(c.done[:]), api.OK
+	return kit.Places(c.done[:]), api.OK
 }
 
 // Before returns the state before a line is done; false if it is not done.
@@ -112,13 +113,13 @@ func Force(p []api.Line, in []int, lines, values []int) ([]int, api.Errno) {
 // validateForced returns the errors of the lines of a valid program to force, and of their values.
 func validateForced(p []api.Line, lines, values []int) api.Errno {
 	switch {
-	case !isSet(lines):
+	case !kit.IsSet(lines):
 		return api.ErrArg
-	case !areBetween(lines, 0, len(p)-1):
+	case !kit.AreBetween(lines, 0, len(p)-1):
 		return api.ErrNone
 	case len(lines) != len(values):
 		return api.ErrFit
-	case !areBetween(values, -api.MaxValue, api.MaxValue):
+	case !kit.AreBetween(values, -api.MaxValue, api.MaxValue):
 		return api.ErrArg
 	}
 	for _, line := range lines {

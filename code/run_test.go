@@ -7,27 +7,23 @@ import (
 
 	"tinker/api"
 	"tinker/code"
+	"tinker/sample"
 )
-
-// six makes 6 in the register 0.
-func six() []api.Line {
-	return []api.Line{{Op: api.Set, A: 3}, {Op: api.Add}}
-}
 
 // TestExamples: the examples of the chapter.
 func TestExamples(t *testing.T) {
 	skips := []api.Line{{Op: api.Skip, To: 1, A: 0, B: 1}, {Op: api.Set, To: 2, A: 9}}
-	for _, in := range [][]int{zeros(), {5, 6, 7, 8}, {-999, 999, 0, 1}} {
-		if end, e := code.Run(six(), in); e != api.OK || !slices.Equal(end, []int{6, in[1], in[2], in[3]}) {
+	for _, in := range [][]int{sample.Zeros(), {5, 6, 7, 8}, {-999, 999, 0, 1}} {
+		if end, e := code.Run(sample.Six(), in); e != api.OK || !slices.Equal(end, []int{6, in[1], in[2], in[3]}) {
 			t.Error("P1.2:", end, e)
 		}
-		if l, e := code.Slice(six(), in, 0); e != api.OK || !slices.Equal(l, []int{0, 1}) {
+		if l, e := code.Slice(sample.Six(), in, 0); e != api.OK || !slices.Equal(l, []int{0, 1}) {
 			t.Error("P1.3:", l, e)
 		}
-		if l, e := code.Slice(six(), in, 1); e != api.OK || len(l) != 0 {
+		if l, e := code.Slice(sample.Six(), in, 1); e != api.OK || len(l) != 0 {
 			t.Error("P1.3:", l, e)
 		}
-		if end, e := code.Force(six(), in, []int{0}, []int{5}); e != api.OK || end[0] != 10 {
+		if end, e := code.Force(sample.Six(), in, []int{0}, []int{5}); e != api.OK || end[0] != 10 {
 			t.Error("P1.3:", end, e)
 		}
 	}
@@ -82,7 +78,7 @@ func TestSkips(t *testing.T) {
 		{"below", api.Line{Op: api.Skip, To: 2, A: 0, B: 1}, []int{1, 2, 0, 0}, []int{0, 3}},
 		{"equal", api.Line{Op: api.Skip, To: 2, A: 0, B: 1}, []int{2, 2, 0, 0}, []int{0, 1, 2, 3}},
 		{"above", api.Line{Op: api.Skip, To: 2, A: 0, B: 1}, []int{3, 2, 0, 0}, []int{0, 1, 2, 3}},
-		{"a register and itself", api.Line{Op: api.Skip, To: 2, A: 1, B: 1}, zeros(), []int{0, 1, 2, 3}},
+		{"a register and itself", api.Line{Op: api.Skip, To: 2, A: 1, B: 1}, sample.Zeros(), []int{0, 1, 2, 3}},
 		{"to the last line", api.Line{Op: api.Skip, To: 2, A: 0, B: 1}, []int{-1, 0, 0, 0}, []int{0, 3}},
 		{"just to the end", api.Line{Op: api.Skip, To: 3, A: 0, B: 1}, []int{-1, 0, 0, 0}, []int{0}},
 		{"beyond the end", api.Line{Op: api.Skip, To: 4, A: 0, B: 1}, []int{-1, 0, 0, 0}, []int{0}},
@@ -102,9 +98,9 @@ func TestSkips(t *testing.T) {
 
 // TestRunsOfModel holds Run, Done and Before against the model.
 func TestRunsOfModel(t *testing.T) {
-	m := newMaker()
+	m := sample.New()
 	for range 5000 {
-		p, in := m.program(), m.state()
+		p, in := m.Program(), m.State()
 		want := model(p, in, nil)
 		if end, e := code.Run(p, in); e != api.OK || !slices.Equal(end, want.end) {
 			t.Fatalf("P1.2: Run of %v from %v: %v %d", p, in, end, e)
@@ -123,10 +119,10 @@ func TestRunsOfModel(t *testing.T) {
 
 func TestBefore(t *testing.T) {
 	in := []int{7, 1, 2, 3}
-	if state, is, e := code.Before(six(), in, 0); e != api.OK || !is || !slices.Equal(state, in) {
+	if state, is, e := code.Before(sample.Six(), in, 0); e != api.OK || !is || !slices.Equal(state, in) {
 		t.Error("P1.2:", state, is, e)
 	}
-	if state, is, e := code.Before(six(), in, 1); e != api.OK || !is || !slices.Equal(state, []int{3, 1, 2, 3}) {
+	if state, is, e := code.Before(sample.Six(), in, 1); e != api.OK || !is || !slices.Equal(state, []int{3, 1, 2, 3}) {
 		t.Error("P1.2:", state, is, e)
 	}
 	skips := []api.Line{{Op: api.Skip, To: 1, A: 0, B: 1}, {Op: api.Set, To: 2, A: 9}}
@@ -134,7 +130,7 @@ func TestBefore(t *testing.T) {
 		t.Error("R3:", state, is, e)
 	}
 	for _, line := range []int{math.MinInt, -1, 2, 8, math.MaxInt} {
-		if state, is, e := code.Before(six(), in, line); e != api.ErrNone || is || len(state) != 0 {
+		if state, is, e := code.Before(sample.Six(), in, line); e != api.ErrNone || is || len(state) != 0 {
 			t.Error("P1.1:", line, state, is, e)
 		}
 	}
@@ -145,7 +141,7 @@ func TestBefore(t *testing.T) {
 
 // TestReadsAndWrites goes through all lines.
 func TestReadsAndWrites(t *testing.T) {
-	for _, l := range allLines() {
+	for _, l := range sample.Lines() {
 		read, e := code.Reads(l)
 		if e != api.OK || !slices.Equal(read, modelReads(l)) {
 			t.Errorf("P1.2: Reads of %v: %v %d", l, read, e)
@@ -159,9 +155,9 @@ func TestReadsAndWrites(t *testing.T) {
 
 // TestReadsIsEnough: the registers that a line does not read do not matter for it.
 func TestReadsIsEnough(t *testing.T) {
-	m := newMaker()
+	m := sample.New()
 	for range 20000 {
-		l, in, other := m.line(), m.state(), m.state()
+		l, in, other := m.Line(), m.State(), m.State()
 		read, _ := code.Reads(l)
 		to, is, _ := code.Writes(l)
 		for _, r := range read {

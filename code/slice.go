@@ -4,6 +4,7 @@ import (
 	"slices"
 
 	"tinker/api"
+	"tinker/kit"
 )
 
 // Reads returns the set of the registers that a line reads.
@@ -12,7 +13,7 @@ func Reads(l api.Line) ([]int, api.Errno) {
 		return nil, e
 	}
 	read := reads(l)
-	return places(read[:]), api.OK
+	return kit.Places(read[:]), api.OK
 }
 
 // Writes returns the register that a line writes; false if it writes none.
@@ -41,7 +42,7 @@ func Slice(p []api.Line, in []int, register int) ([]int, api.Errno) {
 			matter = matterBefore(l, matter)
 		}
 	}
-	return places(slice[:]), api.OK
+	return kit.Places(slice[:]), api.OK
 }
 
 // matterBefore returns the registers that matter before a line of the slice, from those that do after it.

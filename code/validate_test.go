@@ -7,12 +7,13 @@ import (
 
 	"tinker/api"
 	"tinker/code"
+	"tinker/sample"
 )
 
 // TestValidateLine holds all lines near the bounds against the list of the valid ones.
 func TestValidateLine(t *testing.T) {
 	valid := map[api.Line]bool{}
-	for _, l := range allLines() {
+	for _, l := range sample.Lines() {
 		valid[l] = true
 	}
 	if len(valid) != 477 {
@@ -37,7 +38,7 @@ func TestValidateLine(t *testing.T) {
 }
 
 func TestValidateLineAnyValue(t *testing.T) {
-	for _, l := range allLines() {
+	for _, l := range sample.Lines() {
 		for _, n := range extremes() {
 			for field := range 4 {
 				bad := l
@@ -50,8 +51,8 @@ func TestValidateLineAnyValue(t *testing.T) {
 }
 
 func TestValidate(t *testing.T) {
-	long := tooLong()
-	long[0] = badLine()
+	long := sample.TooLong()
+	long[0] = sample.BadLine()
 	huge := make([]api.Line, 100000)
 	for _, x := range []struct {
 		what string
@@ -61,11 +62,11 @@ func TestValidate(t *testing.T) {
 		{"nil", nil, api.OK},
 		{"empty", []api.Line{}, api.OK},
 		{"8 lines", make([]api.Line, 8), api.OK},
-		{"9 lines", tooLong(), api.ErrLarge},
+		{"9 lines", sample.TooLong(), api.ErrLarge},
 		{"9 lines with a bad one", long, api.ErrLarge},
 		{"many lines", huge, api.ErrLarge},
-		{"a bad line first", []api.Line{badLine(), {}}, api.ErrArg},
-		{"a bad line last", append(make([]api.Line, 7), badLine()), api.ErrArg},
+		{"a bad line first", []api.Line{sample.BadLine(), {}}, api.ErrArg},
+		{"a bad line last", append(make([]api.Line, 7), sample.BadLine()), api.ErrArg},
 	} {
 		expect(t, "P1.1", x.what, code.Validate(x.p), x.want)
 	}
@@ -77,7 +78,7 @@ func TestValidateState(t *testing.T) {
 		in   []int
 		want api.Errno
 	}{
-		{zeros(), api.OK},
+		{sample.Zeros(), api.OK},
 		{[]int{999, -999, 999, -999}, api.OK},
 		{nil, api.ErrArg},
 		{[]int{}, api.ErrArg},
@@ -88,7 +89,7 @@ func TestValidateState(t *testing.T) {
 	}
 	for register := range 4 {
 		for _, n := range []int{math.MinInt, -1000, 1000, math.MaxInt} {
-			in := zeros()
+			in := sample.Zeros()
 			in[register] = n
 			expect(t, "P1.1", "a state with a number beyond the bounds", code.ValidateState(in), api.ErrArg)
 		}
@@ -149,11 +150,11 @@ func TestErrorsOfRuns(t *testing.T) {
 			in   []int
 			want api.Errno
 		}{
-			{"a long program", tooLong(), zeros(), api.ErrLarge},
-			{"a long program and a bad state", tooLong(), nil, api.ErrLarge},
-			{"a bad line", []api.Line{badLine()}, zeros(), api.ErrArg},
-			{"a line with a low Op", []api.Line{{Op: math.MinInt}}, zeros(), api.ErrArg},
-			{"a register that is none", []api.Line{{Op: api.Set, To: 4}}, zeros(), api.ErrArg},
+			{"a long program", sample.TooLong(), sample.Zeros(), api.ErrLarge},
+			{"a long program and a bad state", sample.TooLong(), nil, api.ErrLarge},
+			{"a bad line", []api.Line{sample.BadLine()}, sample.Zeros(), api.ErrArg},
+			{"a line with a low Op", []api.Line{{Op: math.MinInt}}, sample.Zeros(), api.ErrArg},
+			{"a register that is none", []api.Line{{Op: api.Set, To: 4}}, sample.Zeros(), api.ErrArg},
 			{"a short state", good, []int{0, 0, 0}, api.ErrArg},
 			{"a long state", good, []int{0, 0, 0, 0, 0}, api.ErrArg},
 			{"no state", good, nil, api.ErrArg},
@@ -199,17 +200,17 @@ func changes() []call {
 }
 
 func TestErrorsOfChanges(t *testing.T) {
-	long := tooLong()
-	long[3] = badLine()
+	long := sample.TooLong()
+	long[3] = sample.BadLine()
 	for _, c := range changes() {
 		for _, x := range []struct {
 			what string
 			p    []api.Line
 			want api.Errno
 		}{
-			{"a long program", tooLong(), api.ErrLarge},
+			{"a long program", sample.TooLong(), api.ErrLarge},
 			{"a long program with a bad line", long, api.ErrLarge},
-			{"a bad line", []api.Line{{}, badLine()}, api.ErrArg},
+			{"a bad line", []api.Line{{}, sample.BadLine()}, api.ErrArg},
 		} {
 			zero, e := c.do(x.p, nil)
 			expect(t, "P1.1", c.name+": "+x.what, e, x.want)
@@ -222,9 +223,9 @@ func TestErrorsOfChanges(t *testing.T) {
 
 // TestErrorsOfTwoPrograms: all errors of the first program come before those of the second one.
 func TestErrorsOfTwoPrograms(t *testing.T) {
-	_, e := code.Join([]api.Line{badLine()}, tooLong())
+	_, e := code.Join([]api.Line{sample.BadLine()}, sample.TooLong())
 	expect(t, "R2", "Join of a bad program and a long one", e, api.ErrArg)
-	_, e = code.Join(tooLong(), []api.Line{badLine()})
+	_, e = code.Join(sample.TooLong(), []api.Line{sample.BadLine()})
 	expect(t, "R2", "Join of a long program and a bad one", e, api.ErrLarge)
 }
 
@@ -266,7 +267,7 @@ func TestMemory(t *testing.T) {
 		programs[4], _ = code.Join(p, nil)
 		for _, q := range programs {
 			for i := range q {
-				q[i] = badLine()
+				q[i] = sample.BadLine()
 			}
 		}
 		var states [4][]int
@@ -298,7 +299,7 @@ func TestJoinOfNothing(t *testing.T) {
 			t.Error("R4:", q, e)
 		}
 	}
-	if l, e := code.Done([]api.Line{}, zeros()); len(l) != 0 || e != api.OK {
+	if l, e := code.Done([]api.Line{}, sample.Zeros()); len(l) != 0 || e != api.OK {
 		t.Error("R4:", l, e)
 	}
 }

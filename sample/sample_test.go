@@ -1,0 +1,57 @@
+package sample_test
+
+import (
+	"slices"
+	"testing"
+
+	"tinker/api"
+	"tinker/check"
+	"tinker/code"
+	"tinker/sample"
+)
+
+// TestLines: the lines are all valid, and each comes once.
+func TestLines(t *testing.T) {
+	lines := map[api.Line]bool{}
+	for _, l := range sample.Lines() {
+		if e := code.ValidateLine(l); e != api.OK || lines[l] {
+			t.Error(l, e)
+		}
+		lines[l] = true
+	}
+	if len(lines) != 477 {
+		t.Error(len(lines), "lines")
+	}
+	if code.ValidateLine(sample.BadLine()) != api.ErrArg || code.Validate(sample.TooLong()) != api.ErrLarge {
+		t.Error("a bad line or a long program is valid")
+	}
+}
+
+// TestMaker: what a maker makes is valid, the same each time, and of many kinds.
+func TestMaker(t *testing.T) {
+	m, n := sample.New(), sample.New()
+	passing, failing, boxes := 0, 0, map[int]bool{}
+	for range 1000 {
+		p, c := m.Program(), m.Contract()
+		l := m.Tests(p)
+		if q := n.Program(); !slices.Equal(p, q) || n.Contract().Out != c.Out || len(n.Tests(q)) != len(l) {
+			t.Fatal("R11: two makers differ")
+		}
+		if e := code.Validate(p); e != api.OK {
+			t.Fatal(p, e)
+		}
+		good, e := check.Passing(p, l)
+		if e != api.OK {
+			t.Fatal(l, e)
+		}
+		passing, failing = passing+len(good), failing+len(l)-len(good)
+		size, e := check.Box(c)
+		if e != api.OK {
+			t.Fatal(c, e)
+		}
+		boxes[size] = true
+	}
+	if passing < 1000 || failing < 1000 || len(boxes) < 50 {
+		t.Error(passing, failing, len(boxes))
+	}
+}
