@@ -1,7 +1,9 @@
-// Package sample makes the programs, states, tests and contracts that the tests of the layers try; no layer uses it.
+// Package sample makes the programs, states, tests and contracts that the tests of the layers try, and spoils their results; no layer uses it.
 package sample
 
 import (
+	"slices"
+
 	"tinker/api"
 	"tinker/code"
 )
@@ -24,6 +26,22 @@ func BadLine() api.Line {
 // TooLong has more lines than a program may have.
 func TooLong() []api.Line {
 	return make([]api.Line, api.MaxLines+1)
+}
+
+// spoiled marks what Spoil has overwritten; no result that is given to it has this number.
+const spoiled = 77
+
+// Spoil overwrites a result and the room behind it. It returns false if that shows nothing, since the result is empty,
+// or if the result was overwritten before: then it is shared.
+func Spoil(list []int) bool {
+	if len(list) == 0 || slices.Contains(list, spoiled) {
+		return false
+	}
+	list = list[:cap(list)]
+	for i := range list {
+		list[i] = spoiled
+	}
+	return true
 }
 
 // Lines returns each valid line.

@@ -55,3 +55,11 @@ func TestMaker(t *testing.T) {
 		t.Error(passing, failing, len(boxes))
 	}
 }
+
+// TestSpoil: whoever shares a spoiled list, or the room behind it, is found.
+func TestSpoil(t *testing.T) {
+	list := []int{1, 2, 3, 4}
+	if !sample.Spoil(list[:2]) || sample.Spoil(list[:1]) || sample.Spoil(list[3:]) || sample.Spoil(nil) {
+		t.Error(list)
+	}
+}
