@@ -34,12 +34,17 @@ const spoiled = 77
 // Spoil overwrites a result and the room behind it. It returns false if that shows nothing, since the result is empty,
 // or if the result was overwritten before: then it is shared.
 func Spoil(list []int) bool {
-	if len(list) == 0 || slices.Contains(list, spoiled) {
+	return SpoilWith(list, spoiled)
+}
+
+// SpoilWith is Spoil for results of any type; no result that is given to it has the mark.
+func SpoilWith[T comparable](list []T, mark T) bool {
+	if len(list) == 0 || slices.Contains(list, mark) {
 		return false
 	}
 	list = list[:cap(list)]
 	for i := range list {
-		list[i] = spoiled
+		list[i] = mark
 	}
 	return true
 }
@@ -114,6 +119,36 @@ func (m *Maker) Program() []api.Line {
 		}
 	}
 	return p
+}
+
+// Change returns a program in which some lines are others. Some of these differ in one field alone, where that is valid.
+func (m *Maker) Change(p []api.Line) []api.Line {
+	q := slices.Clone(p)
+	for i := range q {
+		switch m.Below(3) {
+		case 0:
+			q[i] = m.Line()
+		case 1:
+			q[i].A = m.Below(api.Registers)
+			if code.ValidateLine(q[i]) != api.OK {
+				q[i] = p[i]
+			}
+		}
+	}
+	return q
+}
+
+// Patch returns a patch for a program; some of its edits change nothing.
+func (m *Maker) Patch(p []api.Line) []api.Edit {
+	var x []api.Edit
+	left := m.Below(min(len(p), api.MaxEdits) + 1)
+	for at, l := range m.Change(p) {
+		if m.Below(len(p)-at) < left {
+			x = append(x, api.Edit{At: at, Line: l})
+			left--
+		}
+	}
+	return x
 }
 
 // Number returns a number of a register: a small one, or one near the bounds.

@@ -7,6 +7,7 @@ import (
 	"tinker/api"
 	"tinker/check"
 	"tinker/code"
+	"tinker/patch"
 	"tinker/sample"
 )
 
@@ -61,5 +62,48 @@ func TestSpoil(t *testing.T) {
 	list := []int{1, 2, 3, 4}
 	if !sample.Spoil(list[:2]) || sample.Spoil(list[:1]) || sample.Spoil(list[3:]) || sample.Spoil(nil) {
 		t.Error(list)
+	}
+	lines, mark := make([]api.Line, 4), sample.BadLine()
+	if !sample.SpoilWith(lines[:2], mark) || sample.SpoilWith(lines[3:], mark) || sample.SpoilWith(nil, mark) {
+		t.Error(lines)
+	}
+}
+
+// TestPatch: patches for a program are valid, of all sizes, and some of their edits change nothing, one field or more.
+func TestPatch(t *testing.T) {
+	m := sample.New()
+	sizes, changed := map[int]int{}, map[int]int{}
+	for range 2000 {
+		p := m.Program()
+		x := m.Patch(p)
+		if e := patch.Validate(x); e != api.OK {
+			t.Fatal(x, e)
+		}
+		for _, edit := range x {
+			size, e := patch.Size(p, []api.Edit{edit})
+			if e != api.OK {
+				t.Fatal(p, x, e)
+			}
+			changed[size]++
+		}
+		sizes[len(x)]++
+	}
+	for n := range 5 {
+		if sizes[n] < 100 || changed[n] < 100 {
+			t.Error(n, sizes, changed)
+		}
+	}
+}
+
+// TestChange: a changed program is valid, and the program itself is not.
+func TestChange(t *testing.T) {
+	m := sample.New()
+	for range 1000 {
+		p := m.Program()
+		before := slices.Clone(p)
+		q := m.Change(p)
+		if e := code.Validate(q); e != api.OK || len(q) != len(p) || !slices.Equal(p, before) {
+			t.Fatal(before, p, q, e)
+		}
 	}
 }
