@@ -42,18 +42,13 @@ func follow(p []api.Line, in state, f forced) course {
 		if f.is[at] {
 			c.end[l.To] = f.value[at]
 		} else if op.to == isRegister {
-			c.end[l.To] = cut(op.result(a, b))
+			c.end[l.To] = kit.Cut(op.result(a, b))
 		}
 		if op.skips(a, b) {
 			at += l.To
 		}
 	}
 	return c
-}
-
-// cut returns the value that a register may have and that is nearest to n.
-func cut(n int) int {
-	return max(-api.MaxValue, min(n, api.MaxValue))
 }
 
 // validateRun returns the errors of a program and of a state to run it from.

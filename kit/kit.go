@@ -48,6 +48,11 @@ func IsValue(n int) bool {
 	return IsBetween(n, -api.MaxValue, api.MaxValue)
 }
 
+// Cut returns the number that is nearest to n of those that a register may be.
+func Cut(n int) int {
+	return max(-api.MaxValue, min(n, api.MaxValue))
+}
+
 // Places returns the set of the places of a list that are true.
 func Places(list []bool) []int {
 	var set []int

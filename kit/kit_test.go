@@ -59,6 +59,14 @@ func TestBetween(t *testing.T) {
 	}
 }
 
+func TestCut(t *testing.T) {
+	for n, want := range map[int]int{math.MinInt: -999, -1000: -999, -999: -999, -998: -998, 0: 0, 998: 998, 999: 999, 1000: 999, math.MaxInt: 999} {
+		if got := kit.Cut(n); got != want {
+			t.Error("the nearest value:", n, got)
+		}
+	}
+}
+
 func TestPlaces(t *testing.T) {
 	if set := kit.Places([]bool{true, false, true, true, false}); !slices.Equal(set, []int{0, 2, 3}) {
 		t.Error(set)

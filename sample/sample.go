@@ -190,6 +190,36 @@ func (m *Maker) Tests(p []api.Line) []api.Test {
 	return l
 }
 
+// Box returns a box, whose ranges are of one number, narrow or wide.
+func (m *Maker) Box() []api.Range {
+	b := make([]api.Range, api.Registers)
+	for r := range b {
+		wide := [...]int{1, 6, 2 * api.MaxValue}[m.Below(3)]
+		low := m.Number()
+		b[r] = api.Range{Low: low, High: min(low+m.Below(wide), api.MaxValue)}
+	}
+	return b
+}
+
+// In returns a state of a box; many of its numbers are bounds.
+func (m *Maker) In(b []api.Range) []int {
+	in := Zeros()
+	for r, x := range b {
+		in[r] = [...]int{x.Low, x.High, x.Low + m.Below(x.High-x.Low+1)}[m.Below(3)]
+	}
+	return in
+}
+
+// Part returns a box within a box.
+func (m *Maker) Part(b []api.Range) []api.Range {
+	part := make([]api.Range, len(b))
+	low, high := m.In(b), m.In(b)
+	for r := range part {
+		part[r] = api.Range{Low: min(low[r], high[r]), High: max(low[r], high[r])}
+	}
+	return part
+}
+
 // Contract returns a contract; the numbers from Min to Max are few, many or all.
 func (m *Maker) Contract() api.Contract {
 	c := api.Contract{Low: m.State(), High: Zeros(), Out: m.Below(api.Registers)}

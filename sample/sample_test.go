@@ -9,6 +9,7 @@ import (
 	"tinker/code"
 	"tinker/patch"
 	"tinker/sample"
+	"tinker/span"
 )
 
 // TestLines: the lines are all valid, and each comes once.
@@ -105,5 +106,37 @@ func TestChange(t *testing.T) {
 		if e := code.Validate(q); e != api.OK || len(q) != len(p) || !slices.Equal(p, before) {
 			t.Fatal(before, p, q, e)
 		}
+	}
+}
+
+// TestBox: boxes are valid, their ranges are of all kinds; a state of a box is in it, and so is a part.
+func TestBox(t *testing.T) {
+	m := sample.New()
+	points, narrow, wide, less := 0, 0, 0, 0
+	for range 1000 {
+		b := m.Box()
+		in, part := m.In(b), m.Part(b)
+		if has, e := span.Has(b, in); e != api.OK || !has {
+			t.Fatal(b, in, has, e)
+		}
+		if is, e := span.Within(part, b); e != api.OK || !is {
+			t.Fatal(b, part, is, e)
+		}
+		if !slices.Equal(part, b) {
+			less++
+		}
+		for _, x := range b {
+			switch {
+			case x.Low == x.High:
+				points++
+			case x.High-x.Low < 6:
+				narrow++
+			default:
+				wide++
+			}
+		}
+	}
+	if points < 500 || narrow < 500 || wide < 500 || less < 500 {
+		t.Error(points, narrow, wide, less)
 	}
 }
