@@ -151,6 +151,24 @@ func (m *Maker) Patch(p []api.Line) []api.Edit {
 	return x
 }
 
+// History returns a history of a program: each repair is a patch for what those before it make. Many have one edit alone, so that they need few others.
+func (m *Maker) History(p []api.Line) [][]api.Edit {
+	q := slices.Clone(p)
+	h := make([][]api.Edit, m.Below(api.MaxRepairs+1))
+	for n := range h {
+		x := m.Patch(q)
+		if len(x) > 0 && m.Below(4) > 0 {
+			i := m.Below(len(x))
+			x = x[i : i+1]
+		}
+		for _, edit := range x {
+			q[edit.At] = edit.Line
+		}
+		h[n] = x
+	}
+	return h
+}
+
 // Number returns a number of a register: a small one, or one near the bounds.
 func (m *Maker) Number() int {
 	switch m.Below(4) {

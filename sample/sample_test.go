@@ -10,6 +10,7 @@ import (
 	"tinker/patch"
 	"tinker/sample"
 	"tinker/span"
+	"tinker/story"
 )
 
 // TestLines: the lines are all valid, and each comes once.
@@ -93,6 +94,41 @@ func TestPatch(t *testing.T) {
 		if sizes[n] < 100 || changed[n] < 100 {
 			t.Error(n, sizes, changed)
 		}
+	}
+}
+
+// TestHistory: histories are valid, of all lengths; of their repairs many have one edit, some have more, some change nothing; the program stays as it is.
+func TestHistory(t *testing.T) {
+	m := sample.New()
+	lengths, sizes, idle := map[int]int{}, map[int]int{}, 0
+	for range 2000 {
+		p := m.Program()
+		before := slices.Clone(p)
+		h := m.History(p)
+		if e := story.Validate(p, h); e != api.OK || !slices.Equal(p, before) {
+			t.Fatal(before, p, h, e)
+		}
+		set, e := story.Idle(p, h)
+		if e != api.OK {
+			t.Fatal(p, h, e)
+		}
+		for _, n := range set {
+			if len(h[n]) > 0 {
+				idle++
+			}
+		}
+		for _, x := range h {
+			sizes[len(x)]++
+		}
+		lengths[len(h)]++
+	}
+	for n := range 9 {
+		if lengths[n] < 100 || n < 5 && sizes[n] < 100 {
+			t.Error(n, lengths, sizes)
+		}
+	}
+	if sizes[1] < 3000 || idle < 500 {
+		t.Error(sizes, idle)
 	}
 }
 
