@@ -16,11 +16,11 @@ func Hits(f [][]int, set []int) (bool, api.Errno) {
 	if !isValid(set) {
 		return false, api.ErrArg
 	}
-	return hits(masksOf(f), maskOf(set)), api.OK
+	return hits(masksOf(f), kit.MaskOf(set)), api.OK
 }
 
-func hits(f []mask, m mask) bool {
-	return !slices.ContainsFunc(f, m.isApart)
+func hits(f []kit.Mask, m kit.Mask) bool {
+	return !slices.ContainsFunc(f, m.IsApart)
 }
 
 // Blocker returns all sets that hit a family and of which no proper part does.
@@ -31,15 +31,15 @@ func Blocker(f [][]int) ([][]int, api.Errno) {
 	return family(blocker(masksOf(f))), api.OK
 }
 
-func blocker(f []mask) []mask {
-	return find(func(m mask) bool { return hits(f, m) && needsAll(f, m) })
+func blocker(f []kit.Mask) []kit.Mask {
+	return find(func(m kit.Mask) bool { return hits(f, m) && needsAll(f, m) })
 }
 
 // needsAll reports whether m does not hit a family any more without any one of its numbers.
 // Then no proper part of m hits it, since each one lacks some number.
-func needsAll(f []mask, m mask) bool {
-	for _, n := range m.numbers() {
-		if hits(f, m.without(n)) {
+func needsAll(f []kit.Mask, m kit.Mask) bool {
+	for _, n := range m.Numbers() {
+		if hits(f, m.Without(n)) {
 			return false
 		}
 	}
@@ -63,11 +63,11 @@ func Least(f [][]int) ([][]int, api.Errno) {
 		return nil, e
 	}
 	list := masksOf(f)
-	return family(find(func(m mask) bool { return slices.Contains(list, m) && isLeast(list, m) })), api.OK
+	return family(find(func(m kit.Mask) bool { return slices.Contains(list, m) && isLeast(list, m) })), api.OK
 }
 
-func isLeast(f []mask, m mask) bool {
-	return !slices.ContainsFunc(f, func(other mask) bool { return other != m && other.isPart(m) })
+func isLeast(f []kit.Mask, m kit.Mask) bool {
+	return !slices.ContainsFunc(f, func(other kit.Mask) bool { return other != m && other.IsPart(m) })
 }
 
 // Smallest returns the smallest size of a set that hits a family; false if none does.
@@ -76,7 +76,7 @@ func Smallest(f [][]int) (int, bool, api.Errno) {
 		return 0, false, e
 	}
 	m, some := first(masksOf(f))
-	return m.size(), some, api.OK
+	return m.Size(), some, api.OK
 }
 
 // First returns the first one of the smallest sets that hit a family; false if none does.
@@ -85,16 +85,16 @@ func First(f [][]int) ([]int, bool, api.Errno) {
 		return nil, false, e
 	}
 	m, some := first(masksOf(f))
-	return m.numbers(), some, api.OK
+	return m.Numbers(), some, api.OK
 }
 
 // first seeks in the blocker: no proper part of a smallest set hits the family.
-func first(f []mask) (mask, bool) {
+func first(f []kit.Mask) (kit.Mask, bool) {
 	list := blocker(f)
 	if len(list) == 0 {
 		return 0, false
 	}
-	return slices.MinFunc(list, func(a, b mask) int { return cmp.Compare(a.size(), b.size()) }), true
+	return slices.MinFunc(list, func(a, b kit.Mask) int { return cmp.Compare(a.Size(), b.Size()) }), true
 }
 
 // Apart returns the greatest set of places of non-empty sets that are apart, the first one of several.
@@ -108,11 +108,11 @@ func Apart(f [][]int) ([]int, api.Errno) {
 // chosen tells what matters of a choice among the sets before a place: the numbers that the taken ones use.
 type chosen struct {
 	place int
-	used  mask
+	used  kit.Mask
 }
 
 // apart takes a set whenever as many can be apart with it as without it: so the first choice of the greatest ones comes out.
-func apart(f []mask) []int {
+func apart(f []kit.Mask) []int {
 	most := mostAfter(f)
 	var places []int
 	var c chosen
@@ -128,7 +128,7 @@ func apart(f []mask) []int {
 }
 
 // mostAfter returns a function that tells how many more sets can be taken after a choice.
-func mostAfter(f []mask) func(c chosen) int {
+func mostAfter(f []kit.Mask) func(c chosen) int {
 	// Many choices use the same numbers; what can follow them is found once.
 	known := map[chosen]int{}
 	var most func(c chosen) int
@@ -150,24 +150,24 @@ func mostAfter(f []mask) func(c chosen) int {
 }
 
 // canTake reports whether the set at the place may be taken too.
-func (c chosen) canTake(f []mask) bool {
+func (c chosen) canTake(f []kit.Mask) bool {
 	m := f[c.place]
-	return m != 0 && m.isApart(c.used)
+	return m != 0 && m.IsApart(c.used)
 }
 
-func (c chosen) take(f []mask) chosen { return chosen{c.place + 1, c.used | f[c.place]} }
-func (c chosen) pass() chosen         { return chosen{c.place + 1, c.used} }
+func (c chosen) take(f []kit.Mask) chosen { return chosen{c.place + 1, c.used | f[c.place]} }
+func (c chosen) pass() chosen             { return chosen{c.place + 1, c.used} }
 
 // Common returns the numbers that are in all sets.
 func Common(f [][]int) ([]int, api.Errno) {
 	if e := Validate(f); e != api.OK {
 		return nil, e
 	}
-	common := all
+	common := kit.Below(api.MaxLines)
 	for _, m := range masksOf(f) {
 		common &= m
 	}
-	return common.numbers(), api.OK
+	return common.Numbers(), api.OK
 }
 
 // Together returns the numbers that are in some set.
@@ -175,11 +175,11 @@ func Together(f [][]int) ([]int, api.Errno) {
 	if e := Validate(f); e != api.OK {
 		return nil, e
 	}
-	var together mask
+	var together kit.Mask
 	for _, m := range masksOf(f) {
 		together |= m
 	}
-	return together.numbers(), api.OK
+	return together.Numbers(), api.OK
 }
 
 // Without takes a number out of all sets.
@@ -192,7 +192,7 @@ func Without(f [][]int, number int) ([][]int, api.Errno) {
 	}
 	list := masksOf(f)
 	for i, m := range list {
-		list[i] = m.without(number)
+		list[i] = m.Without(number)
 	}
 	return family(list), api.OK
 }

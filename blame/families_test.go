@@ -9,25 +9,9 @@ import (
 	"tinker/sample"
 )
 
-// subsets returns all sets of numbers from 0 to 7, in ascending order.
-func subsets() [][]int {
-	var list [][]int
-	for bits := range 256 {
-		var set []int
-		for n := range 8 {
-			if bits>>n&1 == 1 {
-				set = append(set, n)
-			}
-		}
-		list = append(list, set)
-	}
-	slices.SortFunc(list, slices.Compare)
-	return list
-}
-
 // ofSize returns all sets with so many numbers, in ascending order.
 func ofSize(size int) [][]int {
-	return slices.DeleteFunc(subsets(), func(set []int) bool { return len(set) != size })
+	return slices.DeleteFunc(sample.Sets(8), func(set []int) bool { return len(set) != size })
 }
 
 func meets(a, b []int) bool {
@@ -221,7 +205,7 @@ func TestLargeFamilies(t *testing.T) {
 // TestFamiliesOfDefinitions holds the functions of families against what the chapter says of them.
 func TestFamiliesOfDefinitions(t *testing.T) {
 	m := sample.New()
-	every := subsets()
+	every := sample.Sets(8)
 	none, some := 0, 0
 	for range 1500 {
 		f := makeFamily(m)
@@ -287,7 +271,7 @@ func expectSmallest(t *testing.T, f, hitting [][]int) {
 // bestApart returns the first one of the greatest sets of places that are apart, of a family of at most 8 sets.
 func bestApart(f [][]int) []int {
 	var best []int
-	for _, places := range subsets() {
+	for _, places := range sample.Sets(8) {
 		if len(places) > len(best) && places[len(places)-1] < len(f) && areApart(f, places) {
 			best = places
 		}

@@ -144,8 +144,8 @@ func Blamed(p []api.Line, l []api.Test, size int) ([][]int, api.Errno) {
 		return nil, api.ErrArg
 	}
 	wrong := failing(p, l)
-	return family(find(func(m mask) bool {
-		lines := m.numbers()
+	return family(find(func(m kit.Mask) bool {
+		lines := m.Numbers()
 		return len(lines) == size && validateLines(p, lines) == api.OK && canPassAll(p, wrong, lines)
 	})), api.OK
 }

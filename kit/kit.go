@@ -1,7 +1,11 @@
 // Package kit has the small functions that the layers share.
 package kit
 
-import "tinker/api"
+import (
+	"slices"
+
+	"tinker/api"
+)
 
 // FirstError returns the first one of the codes that is an error, or OK if none is.
 func FirstError(codes ...api.Errno) api.Errno {
@@ -21,6 +25,11 @@ func IsSet(numbers []int) bool {
 		}
 	}
 	return true
+}
+
+// IsOrder reports whether a list has each number below n once.
+func IsOrder(order []int, n int) bool {
+	return len(order) == n && AreBetween(order, 0, n-1) && IsSet(slices.Sorted(slices.Values(order)))
 }
 
 // IsBetween reports whether n is from low to high.

@@ -38,6 +38,23 @@ func TestIsSet(t *testing.T) {
 	}
 }
 
+func TestIsOrder(t *testing.T) {
+	for _, order := range [][]int{nil, {0}, {1, 0}, {0, 1}, {2, 0, 1}} {
+		before := slices.Clone(order)
+		if !kit.IsOrder(order, len(order)) || !slices.Equal(order, before) {
+			t.Error("an order:", before, order)
+		}
+	}
+	for _, list := range [][]int{nil, {0}, {0, 1, 2}, {0, 0}, {1, 1}, {1, 2}, {-1, 0}, {0, 2}, {math.MinInt, math.MaxInt}} {
+		if kit.IsOrder(list, 2) {
+			t.Error("no order of 2:", list)
+		}
+	}
+	if kit.IsOrder([]int{0}, 0) {
+		t.Error("no order of none")
+	}
+}
+
 func TestBetween(t *testing.T) {
 	for n, want := range map[int]bool{math.MinInt: false, -3: false, -2: true, 0: true, 4: true, 5: false, math.MaxInt: false} {
 		if kit.IsBetween(n, -2, 4) != want || kit.AreBetween([]int{0, n, 1}, -2, 4) != want {

@@ -1,4 +1,4 @@
-// Package sample makes the programs, states, tests and contracts that the tests of the layers try, and spoils their results; no layer uses it.
+// Package sample makes the programs, states, tests, contracts, sets and orders that the tests of the layers try, and spoils their results; no layer uses it.
 package sample
 
 import (
@@ -47,6 +47,36 @@ func SpoilWith[T comparable](list []T, mark T) bool {
 		list[i] = mark
 	}
 	return true
+}
+
+// Sets returns all sets of numbers below n, in ascending order.
+func Sets(n int) [][]int {
+	list := [][]int{nil}
+	for number := range n {
+		// The range is over the sets without the number alone, not over those that are added meanwhile.
+		for _, set := range list {
+			list = append(list, append(slices.Clone(set), number))
+		}
+	}
+	slices.SortFunc(list, slices.Compare)
+	return list
+}
+
+// Orders returns all orders of the numbers below n, in ascending order.
+func Orders(n int) [][]int {
+	list := [][]int{nil}
+	for range n {
+		var longer [][]int
+		for _, order := range list {
+			for next := range n {
+				if !slices.Contains(order, next) {
+					longer = append(longer, append(slices.Clone(order), next))
+				}
+			}
+		}
+		list = longer
+	}
+	return list
 }
 
 // Lines returns each valid line.

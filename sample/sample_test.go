@@ -30,6 +30,23 @@ func TestLines(t *testing.T) {
 	}
 }
 
+// TestSetsAndOrders: all of them, in ascending order and each once.
+func TestSetsAndOrders(t *testing.T) {
+	for n, want := range map[int][][]int{0: {nil}, 1: {nil, {0}}, 2: {nil, {0}, {0, 1}, {1}}, 3: {nil, {0}, {0, 1}, {0, 1, 2}, {0, 2}, {1}, {1, 2}, {2}}} {
+		if list := sample.Sets(n); !slices.EqualFunc(list, want, slices.Equal) {
+			t.Error("sets:", n, list)
+		}
+	}
+	for n, want := range map[int][][]int{0: {nil}, 1: {{0}}, 2: {{0, 1}, {1, 0}}, 3: {{0, 1, 2}, {0, 2, 1}, {1, 0, 2}, {1, 2, 0}, {2, 0, 1}, {2, 1, 0}}} {
+		if list := sample.Orders(n); !slices.EqualFunc(list, want, slices.Equal) {
+			t.Error("orders:", n, list)
+		}
+	}
+	if sets, orders := sample.Sets(10), sample.Orders(8); len(sets) != 1024 || len(orders) != 40320 || !slices.IsSortedFunc(sets, slices.Compare) || !slices.IsSortedFunc(orders, slices.Compare) {
+		t.Error(len(sets), "sets,", len(orders), "orders")
+	}
+}
+
 // TestMaker: what a maker makes is valid, the same each time, and of many kinds.
 func TestMaker(t *testing.T) {
 	m, n := sample.New(), sample.New()

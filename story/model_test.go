@@ -92,23 +92,6 @@ func modelKeeps(needs table, order []int) bool {
 	return true
 }
 
-// permutations returns all orders of the numbers below n, in ascending order.
-func permutations(n int) [][]int {
-	list := [][]int{nil}
-	for range n {
-		var longer [][]int
-		for _, order := range list {
-			for next := range n {
-				if !slices.Contains(order, next) {
-					longer = append(longer, append(slices.Clone(order), next))
-				}
-			}
-		}
-		list = longer
-	}
-	return list
-}
-
 // modelRevert returns what is left of a history, as numbers and as repairs.
 func modelRevert(h [][]api.Edit, set []int) ([]int, [][]api.Edit) {
 	needs := modelNeeds(h)

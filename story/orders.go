@@ -13,18 +13,13 @@ func CheckOrder(p []api.Line, h [][]api.Edit, order []int) api.Errno {
 	if e := Validate(p, h); e != api.OK {
 		return e
 	}
-	if !isOrder(order, len(h)) {
+	if !kit.IsOrder(order, len(h)) {
 		return api.ErrArg
 	}
 	if !history(h).allows(order) {
 		return api.ErrProof
 	}
 	return api.OK
-}
-
-// isOrder reports whether a list has each number below n once.
-func isOrder(order []int, n int) bool {
-	return len(order) == n && kit.AreBetween(order, 0, n-1) && kit.IsSet(slices.Sorted(slices.Values(order)))
 }
 
 // allows reports whether an order keeps the needs.

@@ -79,7 +79,7 @@ func TestOrdersOfMany(t *testing.T) {
 	m := sample.New()
 	var orders [api.MaxRepairs + 1][][]int
 	for n := range orders {
-		orders[n] = permutations(n)
+		orders[n] = sample.Orders(n)
 	}
 	kinds := map[string]int{}
 	for range 1000 {
